@@ -1,0 +1,1 @@
+"""Boatbridge: a bridge of boats, opened for ships."""
