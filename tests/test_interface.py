@@ -20,6 +20,32 @@ LISTED = {
     "boats": {
         "Boat": [("name", None), ("bears", None)],
     },
+    "bridges": {
+        "Bridge": [("boats", None), ("spans", None)],
+        "read_bridge": [("text", None)],
+    },
+    "loads": {
+        "halves": [("bridge", None), ("load", None)],
+        "need_borne": [("bridge", None), ("load", None)],
+        "is_borne": [("bridge", None), ("load", None)],
+        "room_at": [("bridge", None), ("load", None), ("at", None)],
+    },
+    "changes": {
+        "change_order": [("bridge", None), ("boats", None), ("load", "None")],
+    },
+    "changelooks": {
+        "keeps": [("bridge", None), ("boats", None), ("load", None), ("thing", None)],
+    },
+}
+
+# By file and class: the methods that the class itself has to define, and their arguments.
+METHODS = {
+    ("bridges", "Bridge"): {
+        "boats": [],
+        "spans": [],
+        "boat": [("name", None)],
+        "with_boat": [("at", None), ("boat", None)],
+    },
 }
 
 
@@ -41,6 +67,13 @@ class InterfaceTest(unittest.TestCase):
                     thing = getattr(module, name)
                     self.assertEqual(thing.__module__, module.__name__)
                     self.assertEqual(arguments(thing), told)
+
+    def test_methods_of_each_class_itself(self):
+        for (file, kind), methods in METHODS.items():
+            found = vars(getattr(importlib.import_module("boatbridge." + file), kind))
+            for name, told in methods.items():
+                with self.subTest(kind=kind, name=name):
+                    self.assertEqual(arguments(found[name])[1:], told)
 
     def test_arguments_by_places_and_by_names(self):
         for file, names in LISTED.items():
