@@ -36,6 +36,24 @@ LISTED = {
     "changelooks": {
         "keeps": [("bridge", None), ("boats", None), ("load", None), ("thing", None)],
     },
+    "wires": {
+        "show_wire": [("reading", None)],
+        "read_wire": [("word", None)],
+    },
+    "gauges": {
+        "Gauge": [("lag", "60"), ("high", "200"), ("top", "400"), ("thin", "5"), ("thick", "20")],
+    },
+    "hours": {
+        "Rule": [],
+        "Hours": [("first", None), ("behind", None)],
+        "Days": [("days", None)],
+        "Unless": [("rule", None)],
+        "Both": [("rules", None)],
+        "Either": [("rules", None)],
+    },
+    "hourtexts": {
+        "read_rule": [("text", None)],
+    },
 }
 
 # By file and class: the methods that the class itself has to define, and their arguments.
@@ -46,6 +64,17 @@ METHODS = {
         "boat": [("name", None)],
         "with_boat": [("at", None), ("boat", None)],
     },
+    ("gauges", "Gauge"): {
+        "stand": [("readings", None), ("minute", None)],
+        "stands": [("readings", None), ("within", None)],
+        "last_call": [("readings", None), ("now", None), ("long", "120")],
+    },
+    ("hours", "Rule"): {"allows": [("minute", None)]},
+    ("hours", "Hours"): {"allows": [("minute", None)]},
+    ("hours", "Days"): {"allows": [("minute", None)]},
+    ("hours", "Unless"): {"allows": [("minute", None)]},
+    ("hours", "Both"): {"allows": [("minute", None)]},
+    ("hours", "Either"): {"allows": [("minute", None)]},
 }
 
 
