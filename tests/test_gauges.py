@@ -51,7 +51,8 @@ class StandTest(unittest.TestCase):
         gauge = small()
         for water, ice, told in [
             (0, 0, "free"), (2, 1, "free"), (3, 0, "slow"), (0, 2, "slow"), (3, 2, "slow"), (4, 3, "slow"),
-            (0, 4, "shut"), (4, 4, "shut"), (2, 9, "shut"), (5, 0, "lost"), (5, 4, "lost"), (9, 9, "lost"), (5, 3, "lost"),
+            (0, 4, "shut"), (4, 4, "shut"), (2, 9, "shut"), (5, 0, "lost"), (5, 4, "lost"), (9, 9, "lost"),
+            (5, 3, "lost"),
         ]:
             with self.subTest(water=water, ice=ice):
                 self.assertEqual(gauge.stand([(0, "water", water), (2, "ice", ice)], 2), told)
@@ -145,7 +146,8 @@ class StandsTest(unittest.TestCase):
         gauge = small()
         self.assertEqual(spelled(gauge.stands(readings, Stretch(0, 2))), [(0, 2, "free")])
         self.assertEqual(spelled(gauge.stands(readings, Stretch(2, 12))), [(2, 12, "lost")])
-        self.assertEqual(spelled(gauge.stands(readings, Stretch(1, 13))), [(1, 2, "free"), (2, 12, "lost"), (12, 13, "free")])
+        self.assertEqual(
+            spelled(gauge.stands(readings, Stretch(1, 13))), [(1, 2, "free"), (2, 12, "lost"), (12, 13, "free")])
         self.assertEqual(spelled(gauge.stands(readings, Stretch(5, 6))), [(5, 6, "lost")])
         self.assertEqual(spelled(gauge.stands(readings, Stretch(19, 21))), [(19, 20, "free"), (20, 21, "shut")])
         self.assertEqual(spelled(gauge.stands(readings, Stretch(30, 90))), [(30, 90, "shut")])

@@ -86,7 +86,8 @@ class WrongWordTest(RuleTextCase):
     def test_hours(self):
         for word in [
             "24:00-10:30", "08:00-24:00", "00:00-24:00", "08:00-08:00", "00:00-00:00", "08:00-10:30+1", "08:00+1-10:30",
-            "08:00+1-10:30+1", "08:00+0-10:30", "08:00", "08:00-", "-10:30", "-", "08:00--10:30", "08:00-10:30-11:00",
+            "08:00+1-10:30+1", "08:00+0-10:30", "08:00-00:00+1", "00:00+1-10:30", "08:00", "08:00-",
+            "-10:30", "-", "08:00--10:30", "08:00-10:30-11:00",
             "8:00-10:30", "08:00-10:3", "08:60-10:30", "08:00-10:60", "08:00_10:30", "08:00:10:30", "0800-1030",
             "480-630", "hours", "h", "08:00-10:30)", "(08:00-10:30", "08:00-10:30\n", "\n08:00-10:30", "08:00\n-10:30",
             "08:00-10:30,", "8", "0",
@@ -100,13 +101,16 @@ class WrongWordTest(RuleTextCase):
 
     def test_days(self):
         for text, at in [
-            ("( days )", 2), ("( days", 2), ("( days 0", 3), ("( days 0 2", 4), ("( days 0 0 )", 3), ("( days 2 0 )", 3),
+            ("( days )", 2), ("( days", 2), ("( days 0", 3), ("( days 0 2", 4), ("( days 0 0 )", 3),
+            ("( days 2 0 )", 3),
             ("( days 3 3 )", 3), ("( days 0 1 1 )", 4), ("( days 0 5 4 )", 4), ("( days 7 )", 2), ("( days 0 7 )", 3),
             ("( days 10 )", 2), ("( days 00 )", 2), ("( days 01 )", 2), ("( days -1 )", 2), ("( days +1 )", 2),
             ("( days 0 1 2 3 4 5 6", 9), ("( days 0 1 2 3 4 5 6 6 )", 9), ("( days 6 7 )", 3), ("( days x )", 2),
-            ("( days 0,2 )", 2), ("( days 02 )", 2), (f"( days {H} )", 2), (f"( days 0 {H} )", 3), ("( days ( days 0 ) )", 2),
+            ("( days 0,2 )", 2), ("( days 02 )", 2), (f"( days {H} )", 2), (f"( days 0 {H} )", 3),
+            ("( days ( days 0 ) )", 2),
             ("( days 0 ( days 1 ) )", 3), ("( days 0 days )", 3), ("( days days )", 2), ("( days 0 ) )", 4),
-            ("( days 0  2 )", 3), ("( days  0 )", 2), ("( days 1 \n )", 3), ("( days 1_0 )", 2), ("( days " + "9" * 7000, 2),
+            ("( days 0  2 )", 3), ("( days  0 )", 2), ("( days 1 \n )", 3), ("( days 1_0 )", 2),
+            ("( days " + "9" * 7000, 2),
             ("( days \u0661 )", 2), ("( days \u00b2 )", 2), ("days 0 2", 0), ("( 0 2 )", 1), ("( days 0 2 ) 3", 5),
         ]:
             with self.subTest(text[:40]):
@@ -116,7 +120,8 @@ class WrongWordTest(RuleTextCase):
         for text, at in [
             ("(", 1), (")", 0), ("( )", 1), (") (", 0), ("( (", 1), ("( ( both ) )", 1), ("()", 0), ("(both)", 0),
             ("( both", 2), ("( either", 2), ("( unless", 2), (f"( both {H}", 3), (f"( either {H} {H}", 4),
-            (f"( unless {H}", 3), ("( both ) )", 3), ("( both )) ", 2), ("( both)", 1), ("(both )", 0), ("( both ) (", 3),
+            (f"( unless {H}", 3), ("( both ) )", 3), ("( both )) ", 2), ("( both)", 1), ("(both )", 0),
+            ("( both ) (", 3),
             (f"{H} )", 1), (f"( {H} )", 1), (f"( unless ( both {H} )", 6), (f"( unless {H} ) )", 4), ("( both ( )", 3),
             ("( both ( either )", 5), ("( both [ ] )", 2), ("[ both ]", 0), ("both )", 0), ("both", 0), ("either )", 0),
             (f"unless {H}", 0), (f"( both {H} ) )", 4), ("( both ( ( either ) ) )", 3), ("( both ) ( either )", 3),
@@ -127,10 +132,12 @@ class WrongWordTest(RuleTextCase):
     def test_words_of_one_anothers_places(self):
         for text, at in [
             ("( unless )", 2), (f"( unless {H} {H} )", 3), ("( unless unless )", 2), ("( unless both )", 2),
-            ("( unless 0 )", 2), ("( both 0 )", 2), ("( both both )", 2), ("( either days 0 )", 2), ("( both ( 0 ) )", 3),
+            ("( unless 0 )", 2), ("( both 0 )", 2), ("( both both )", 2), ("( either days 0 )", 2),
+            ("( both ( 0 ) )", 3),
             ("( Both )", 1), ("( BOTH )", 1), ("( all )", 1), ("( neither )", 1), (f"( hours {H} )", 1), ("( or )", 1),
             (f"( both {H} unless )", 3), (f"( unless {H} ( both ) )", 3), (f"( both {H} 0 )", 3), ("( day 0 )", 1),
-            (f"( {H} both )", 1), ("( unless ( days 0 ) 1 )", 6), ("( both ( days 1 either ) )", 5), ("( botheither )", 1),
+            (f"( {H} both )", 1), ("( unless ( days 0 ) 1 )", 6), ("( both ( days 1 either ) )", 5),
+            ("( botheither )", 1),
         ]:
             with self.subTest(text):
                 self.assert_no_rule(text, at)
@@ -138,7 +145,8 @@ class WrongWordTest(RuleTextCase):
     def test_blanks(self):
         for text, at in [
             ("", 0), (" ", 0), ("  ", 0), (f" {H}", 0), (f"{H} ", 1), (f"{H}  ", 1), (" ( both )", 0), ("( both ) ", 3),
-            ("(  both )", 1), ("( both  )", 2), (f"( both {H}  {H} )", 3), (f"( unless  {H} )", 2), (f"( unless {H}  )", 3),
+            ("(  both )", 1), ("( both  )", 2), (f"( both {H}  {H} )", 3), (f"( unless  {H} )", 2),
+            (f"( unless {H}  )", 3),
             ("( ", 1), ("( both ", 2), (f"( unless {H} ", 3), ("( days 0 ", 3),
         ]:
             with self.subTest(text):
@@ -146,7 +154,8 @@ class WrongWordTest(RuleTextCase):
 
     def test_line_feeds(self):
         for text, at in [
-            ("\n", 0), (f"{H}\n", 0), (f"\n{H}", 0), ("( both )\n", 2), ("(\nboth )", 0), ("( both\n)", 1), (f"{H}\n{H}", 0),
+            ("\n", 0), (f"{H}\n", 0), (f"\n{H}", 0), ("( both )\n", 2), ("(\nboth )", 0), ("( both\n)", 1),
+            (f"{H}\n{H}", 0),
             (f"{H} \n", 1), ("( both \n )", 2), ("( days 0\n2 )", 2), (f"( unless {H}\n )", 2), ("( both ) \n", 3),
         ]:
             with self.subTest(text):
@@ -219,9 +228,11 @@ class AllTextsTest(RuleTextCase):
 
     def test_the_other_way_by_hand(self):
         for words, told in [
-            ((H,), True), (("(", "both", ")"), True), (("(", "unless", ")"), False), (("(", "days", "0", "2", ")"), True),
+            ((H,), True), (("(", "both", ")"), True), (("(", "unless", ")"), False),
+            (("(", "days", "0", "2", ")"), True),
             (("(", "days", "2", "0", ")"), False), ((")",), False), (("(", "unless", H, ")"), True),
-            (tuple(deep(5).split(" ")), True), (tuple(deep(6).split(" ")), False), (("(", "both", *[H] * 9, ")"), False),
+            (tuple(deep(5).split(" ")), True), (tuple(deep(6).split(" ")), False),
+            (("(", "both", *[H] * 9, ")"), False),
         ]:
             self.assertIs(is_rule_text(words), told)
         self.assertTrue(can_begin(()))

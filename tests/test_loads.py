@@ -6,7 +6,7 @@ import unittest
 from boatbridge.boats import Boat
 from boatbridge.bridges import Bridge, read_bridge
 from boatbridge.errors import NoSpan, Overload
-from boatbridge.loads import halves, is_borne, need_borne, room_at
+from boatbridge.loads import full_load, halves, halves_without, is_borne, need_borne, room_at
 from tests.anything import assert_refused, things
 
 MOST = 10 ** 6
@@ -60,6 +60,22 @@ class HalvesTest(LoadCase):
         told.append(9)
         self.assertEqual(halves(bridge, load), [11])
         self.assertEqual(load, [7, 4])
+
+
+class WithoutTest(LoadCase):
+    """Promise 12: what each boat bears while one is out."""
+
+    def test_the_neighbours_have_both_spans(self):
+        bridge = read_bridge("1 a:1 1 b:1 1 c:1 1")
+        self.assertEqual(halves_without(bridge, [1, 2, 4, 8], 0), [0, 7, 12])
+        self.assertEqual(halves_without(bridge, [1, 2, 4, 8], 1), [7, 0, 14])
+        self.assertEqual(halves_without(bridge, [1, 2, 4, 8], 2), [3, 14, 0])
+        self.assertEqual(halves_without(read_bridge("1 a:1 1"), [5, 7], 0), [0])
+
+    def test_no_load_is_one_without_weights(self):
+        load = [1, 2]
+        self.assertEqual(full_load(read_bridge("1 a:1 1"), None), [0, 0])
+        self.assertEqual(full_load(read_bridge("1 a:1 1"), load), [1, 2])
 
 
 class BorneTest(LoadCase):

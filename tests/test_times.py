@@ -6,6 +6,7 @@ import unittest
 
 from boatbridge.errors import NoTime
 from boatbridge.times import read_time, show_time
+from tests.anything import one_sign_away
 
 FORM = re.compile(r"([01][0-9]|2[0-3]):([0-5][0-9])(?:\+([1-9][0-9]*))?")
 
@@ -133,25 +134,13 @@ class ReadTimeTest(unittest.TestCase):
 
     def test_each_text_one_sign_away(self):
         for word in ("00:00", "07:05", "19:59", "23:59", "23:59+1", "07:05+10", "10:40+694"):
-            for near in one_sign_away(word):
+            for near in one_sign_away(word, SIGNS):
                 with self.subTest(near):
                     minute = minute_by_form(near)
                     if minute is None:
                         self.assert_no_time(near)
                     else:
                         self.assertEqual(read_time(near), minute)
-
-
-def one_sign_away(word):
-    """All texts with one sign of the word dropped, changed, added, or a pair turned about."""
-    found = {word}
-    for k in range(len(word) + 1):
-        found.add(word[:k] + word[k + 1:])
-        found.add(word[:k] + word[k:k + 2][::-1] + word[k + 2:])
-        for sign in SIGNS:
-            found.add(word[:k] + sign + word[k:])
-            found.add(word[:k] + sign + word[k + 1:])
-    return sorted(found)
 
 
 def minute_by_form(word):
