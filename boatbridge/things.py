@@ -10,6 +10,11 @@ def is_whole(thing, least, most):
     return isinstance(thing, int) and not isinstance(thing, bool) and least <= thing <= most
 
 
+def is_count(thing):
+    """Whether thing is a whole number from 0 on, however great; a truth is none."""
+    return isinstance(thing, int) and not isinstance(thing, bool) and thing >= 0
+
+
 def is_name(thing):
     """Whether thing is a text of one to eight small letters."""
     return isinstance(thing, str) and 1 <= len(thing) <= LONGEST_NAME and has_only(thing, SMALL_LETTERS)

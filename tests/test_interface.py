@@ -54,6 +54,26 @@ LISTED = {
     "hourtexts": {
         "read_rule": [("text", None)],
     },
+    "windows": {
+        "first_allowed": [("rule", None), ("minute", None), ("long", "1")],
+        "allowed_in": [("rule", None), ("within", None)],
+    },
+    "openings": {
+        "openings": [("ships", None), ("rule", "None"), ("out", "5"), ("gap", "30"), ("price", "0")],
+    },
+    "openlooks": {
+        "is_plan": [("ships", None), ("plan", None), ("rule", "None"), ("out", "5"), ("gap", "30")],
+        "plan_price": [("ships", None), ("plan", None), ("price", "0")],
+        "bars_less": [
+            ("ships", None), ("worth", None), ("paper", None), ("rule", "None"), ("out", "5"), ("gap", "30"),
+            ("price", "0"),
+        ],
+    },
+    "decks": {
+        "Deck": [
+            ("bridge", None), ("part", None), ("out", "5"), ("rest", "30"), ("turn", "3"), ("rule", "None"),
+        ],
+    },
 }
 
 # By file and class: the methods that the class itself has to define, and their arguments.
@@ -75,6 +95,19 @@ METHODS = {
     ("hours", "Unless"): {"allows": [("minute", None)]},
     ("hours", "Both"): {"allows": [("minute", None)]},
     ("hours", "Either"): {"allows": [("minute", None)]},
+    ("decks", "Deck"): {
+        "cart": [("name", None), ("bank", None), ("weight", None), ("at", "None")],
+        "ship": [("name", None), ("long", "10"), ("at", "None")],
+        "rest_hours": [("stretch", None)],
+        "go_to": [("minute", None)],
+        "now": [],
+        "mode": [],
+        "turn": [],
+        "on_deck": [],
+        "load": [],
+        "line": [("bank", None)],
+        "ships": [],
+    },
 }
 
 

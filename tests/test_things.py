@@ -2,7 +2,7 @@
 
 import unittest
 
-from boatbridge.things import has_only, is_name, is_whole, number_of
+from boatbridge.things import has_only, is_count, is_name, is_whole, number_of
 from tests.anything import no_texts, things
 
 
@@ -16,6 +16,16 @@ class WholeTest(unittest.TestCase):
         for thing in things():
             told = type(thing) is int and 0 <= thing <= 1
             self.assertIs(is_whole(thing, 0, 1), told)
+
+
+class CountTest(unittest.TestCase):
+    def test_from_0_on(self):
+        self.assertEqual([is_count(k) for k in range(-2, 3)], [False, False, True, True, True])
+        self.assertIs(is_count(10 ** 300), True)
+
+    def test_truths_and_other_things_are_none(self):
+        for thing in things():
+            self.assertIs(is_count(thing), type(thing) is int and thing >= 0)
 
 
 class NameTest(unittest.TestCase):
