@@ -74,6 +74,24 @@ LISTED = {
             ("bridge", None), ("part", None), ("out", "5"), ("rest", "30"), ("turn", "3"), ("rule", "None"),
         ],
     },
+    "waits": {
+        "waits": [("events", None), ("comings", None)],
+        "ranked": [("waited", None), ("by", "'long'"), ("backward", "False")],
+        "longest": [("waited", None)],
+        "mean_wait": [("waited", None)],
+        "beyond": [("events", None), ("comings", None), ("most", None), ("until", None)],
+    },
+    "books": {
+        "Book": [("bank", None)],
+        "read_book": [("text", None)],
+    },
+    "banks": {
+        "books_of": [("events", None)],
+        "crossings": [("one", None), ("other", None)],
+    },
+    "desk": {
+        "Desk": [],
+    },
 }
 
 # By file and class: the methods that the class itself has to define, and their arguments.
@@ -108,6 +126,11 @@ METHODS = {
         "line": [("bank", None)],
         "ships": [],
     },
+    ("books", "Book"): {
+        "write": [("minute", None), ("word", None), ("name", None)],
+        "rows": [],
+    },
+    ("desk", "Desk"): {"say": [("row", None)]},
 }
 
 
